@@ -1,0 +1,155 @@
+// Package checks holds the whole program against the rules that no single layer's tests can see: the language it keeps to, the ways it is built in, the calls that its layers have.
+package checks
+
+import (
+	"bytes"
+	"go/ast"
+	"go/format"
+	"go/parser"
+	"go/token"
+	"os"
+	"path/filepath"
+	"strconv"
+	"strings"
+	"testing"
+)
+
+const (
+	module       = "escutcheon"
+	layers       = "wire field scalar ladder sha edwards sign chacha poly aead blake hkdf der disk seal cipher noise window channel frame policy keystore attest cert session model keeper world terms judge script console"
+	library      = " bytes cmp container/heap errors iter maps math math/bits slices sort strconv strings sync sync/atomic unicode unicode/utf8 "
+	longFunction = 66 // 'some 60'
+)
+
+// source is a file of the program.
+type source struct {
+	name string
+	text []byte
+	tree *ast.File
+	set  *token.FileSet
+}
+
+func sources(t *testing.T) []source {
+	t.Helper()
+	var all []source
+	for _, layer := range strings.Fields(layers) {
+		names, _ := filepath.Glob(filepath.Join("..", layer, "*"))
+		found := false
+		for _, name := range names {
+			if strings.HasSuffix(name, "_test.go") {
+				continue
+			}
+			all = append(all, sourceOf(t, name))
+			found = true
+		}
+		if !found {
+			t.Errorf("%s: no package", layer)
+		}
+	}
+	return all
+}
+
+func sourceOf(t *testing.T, name string) source {
+	t.Helper()
+	if !strings.HasSuffix(name, ".go") {
+		t.Fatalf("%s: not a Go file", name)
+	}
+	text, err := os.ReadFile(name)
+	if err != nil {
+		t.Fatal(err)
+	}
+	set := token.NewFileSet()
+	tree, err := parser.ParseFile(set, name, text, parser.ParseComments)
+	if err != nil {
+		t.Fatal(err)
+	}
+	return source{name, text, tree, set}
+}
+
+func TestImports(t *testing.T) {
+	order := map[string]int{"api": -1}
+	for i, layer := range strings.Fields(layers) {
+		order[layer] = i
+	}
+	for _, s := range sources(t) {
+		mine := filepath.Base(filepath.Dir(s.name))
+		for _, spec := range s.tree.Imports {
+			path, _ := strconv.Unquote(spec.Path.Value)
+			if below, own := strings.CutPrefix(path, module+"/"); own {
+				if n, ok := order[below]; !ok || n >= order[mine] {
+					t.Errorf("%s: layer %s is not one that stands above it in the map", s.name, below)
+				}
+			} else if !strings.Contains(library, " "+path+" ") {
+				t.Errorf("%s: imports %s", s.name, path)
+			}
+			if spec.Name != nil && (spec.Name.Name == "." || spec.Name.Name == "_") {
+				t.Errorf("%s: imports %s as %s", s.name, path, spec.Name.Name)
+			}
+		}
+	}
+}
+
+func TestLayout(t *testing.T) {
+	for _, s := range sources(t) {
+		if laid, err := format.Source(s.text); err != nil || !bytes.Equal(laid, s.text) {
+			t.Errorf("%s: not in gofmt's layout", s.name)
+		}
+		for _, group := range s.tree.Comments {
+			for _, c := range group.List {
+				if strings.HasPrefix(c.Text, "//go:") || strings.HasPrefix(c.Text, "// +build") {
+					t.Errorf("%s: %s", s.name, c.Text)
+				}
+			}
+		}
+	}
+}
+
+func TestFunctionsAreSmall(t *testing.T) {
+	for _, s := range sources(t) {
+		for _, d := range s.tree.Decls {
+			f, ok := d.(*ast.FuncDecl)
+			if !ok {
+				continue
+			}
+			if lines := s.set.Position(f.End()).Line - s.set.Position(f.Pos()).Line + 1; lines > longFunction {
+				t.Errorf("%s: %s has %d lines", s.name, f.Name.Name, lines)
+			}
+		}
+	}
+}
+
+func TestNothingPrints(t *testing.T) {
+	for _, s := range sources(t) {
+		ast.Inspect(s.tree, func(n ast.Node) bool {
+			if call, ok := n.(*ast.CallExpr); ok {
+				if f, ok := call.Fun.(*ast.Ident); ok && (f.Name == "print" || f.Name == "println") {
+					t.Errorf("%s: %s", s.set.Position(call.Pos()), f.Name)
+				}
+			}
+			return true
+		})
+	}
+}
+
+// What stands at package level has a value that is written out there.
+func TestPackageLevel(t *testing.T) {
+	for _, s := range sources(t) {
+		for _, d := range s.tree.Decls {
+			group, ok := d.(*ast.GenDecl)
+			if !ok || group.Tok != token.VAR {
+				continue
+			}
+			for _, spec := range group.Specs {
+				v := spec.(*ast.ValueSpec)
+				if len(v.Values) != len(v.Names) {
+					t.Errorf("%s: a variable without a value of its own", s.set.Position(v.Pos()))
+				}
+				for _, value := range v.Values {
+					if _, ok := value.(*ast.FuncLit); ok {
+						t.Errorf("%s: a function as a variable", s.set.Position(v.Pos()))
+					}
+				}
+			}
+		}
+	}
+}

@@ -1,0 +1,106 @@
+package checks
+
+import (
+	"go/ast"
+	"go/importer"
+	"go/parser"
+	"go/token"
+	"go/types"
+	"path/filepath"
+	"strings"
+	"testing"
+)
+
+// loader finds the types of the project's packages in their folders, and of the library's in its source.
+type loader struct {
+	set  *token.FileSet
+	info *types.Info
+	std  types.Importer
+	done map[string]*types.Package
+	tree map[string][]*ast.File
+}
+
+func newLoader() *loader {
+	set := token.NewFileSet()
+	return &loader{
+		set:  set,
+		info: &types.Info{Types: map[ast.Expr]types.TypeAndValue{}},
+		std:  importer.ForCompiler(set, "source", nil),
+		done: map[string]*types.Package{},
+		tree: map[string][]*ast.File{},
+	}
+}
+
+func (l *loader) Import(path string) (*types.Package, error) {
+	folder, own := strings.CutPrefix(path, module+"/")
+	if !own {
+		return l.std.Import(path)
+	}
+	if p := l.done[path]; p != nil {
+		return p, nil
+	}
+	names, _ := filepath.Glob(filepath.Join("..", folder, "*.go"))
+	for _, name := range names {
+		if strings.HasSuffix(name, "_test.go") {
+			continue
+		}
+		f, err := parser.ParseFile(l.set, name, nil, 0)
+		if err != nil {
+			return nil, err
+		}
+		l.tree[path] = append(l.tree[path], f)
+	}
+	c := types.Config{Importer: l}
+	p, err := c.Check(path, l.set, l.tree[path], l.info)
+	l.done[path] = p
+	return p, err
+}
+
+// way is what a node of the tree shows of the language's ways ("" of most nodes).
+func (l *loader) way(n ast.Node) string {
+	switch x := n.(type) {
+	case *ast.Ellipsis:
+		return "variadic"
+	case *ast.SliceExpr:
+		if x.Slice3 {
+			return "three-index"
+		}
+	case *ast.RangeStmt:
+		b, ok := l.info.Types[x.X].Type.Underlying().(*types.Basic)
+		switch {
+		case ok && b.Info()&types.IsString != 0:
+			return "string"
+		case ok && b.Info()&types.IsInteger != 0:
+			return "integer"
+		}
+	case *ast.Ident:
+		if x.Name == "rune" {
+			return "rune"
+		}
+	}
+	return ""
+}
+
+func TestWays(t *testing.T) {
+	for layer, ways := range map[string]string{
+		"wire": "variadic three-index rune string integer",
+	} {
+		l := newLoader()
+		path := module + "/" + layer
+		if _, err := l.Import(path); err != nil {
+			t.Fatal(err)
+		}
+		found := map[string]bool{}
+		for _, f := range l.tree[path] {
+			ast.Inspect(f, func(n ast.Node) bool {
+				found[l.way(n)] = true
+				return true
+			})
+		}
+		for _, way := range strings.Fields(ways) {
+			if !found[way] {
+				t.Errorf("%s: nothing is built by the way %s", layer, way)
+			}
+		}
+	}
+}
