@@ -7,6 +7,7 @@ import (
 	"go/token"
 	"go/types"
 	"path/filepath"
+	"strconv"
 	"strings"
 	"testing"
 )
@@ -77,13 +78,27 @@ func (l *loader) way(n ast.Node) string {
 		if x.Name == "rune" {
 			return "rune"
 		}
+	case *ast.ArrayType:
+		if x.Len != nil {
+			return "array"
+		}
+	case *ast.BinaryExpr:
+		_, ok := l.info.Types[x.X].Type.Underlying().(*types.Array)
+		if ok && (x.Op == token.EQL || x.Op == token.NEQ) {
+			return "array-compared"
+		}
+	case *ast.ImportSpec:
+		if path, _ := strconv.Unquote(x.Path.Value); path == "math/bits" {
+			return path
+		}
 	}
 	return ""
 }
 
 func TestWays(t *testing.T) {
 	for layer, ways := range map[string]string{
-		"wire": "variadic three-index rune string integer",
+		"wire":  "variadic three-index rune string integer",
+		"field": "array array-compared math/bits integer",
 	} {
 		l := newLoader()
 		path := module + "/" + layer
