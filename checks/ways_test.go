@@ -97,8 +97,9 @@ func (l *loader) way(n ast.Node) string {
 
 func TestWays(t *testing.T) {
 	for layer, ways := range map[string]string{
-		"wire":  "variadic three-index rune string integer",
-		"field": "array array-compared math/bits integer",
+		"wire":   "variadic three-index rune string integer",
+		"field":  "array array-compared math/bits integer",
+		"scalar": "array math/bits integer",
 	} {
 		l := newLoader()
 		path := module + "/" + layer
