@@ -87,6 +87,12 @@ func (l *loader) way(n ast.Node) string {
 		if ok && (x.Op == token.EQL || x.Op == token.NEQ) {
 			return "array-compared"
 		}
+	case *ast.StructType:
+		return "struct"
+	case *ast.AssignStmt:
+		if len(x.Lhs) > 1 {
+			return "several"
+		}
 	case *ast.ImportSpec:
 		if path, _ := strconv.Unquote(x.Path.Value); path == "math/bits" {
 			return path
@@ -100,6 +106,7 @@ func TestWays(t *testing.T) {
 		"wire":   "variadic three-index rune string integer",
 		"field":  "array array-compared math/bits integer",
 		"scalar": "array math/bits integer",
+		"ladder": "integer several struct",
 	} {
 		l := newLoader()
 		path := module + "/" + layer
