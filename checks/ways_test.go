@@ -66,6 +66,7 @@ func (l *loader) way(n ast.Node) string {
 		if x.Slice3 {
 			return "three-index"
 		}
+		return "slicing"
 	case *ast.RangeStmt:
 		b, ok := l.info.Types[x.X].Type.Underlying().(*types.Basic)
 		switch {
@@ -107,6 +108,7 @@ func TestWays(t *testing.T) {
 		"field":  "array array-compared math/bits integer",
 		"scalar": "array math/bits integer",
 		"ladder": "integer several struct",
+		"sha":    "math/bits array array-compared slicing",
 	} {
 		l := newLoader()
 		path := module + "/" + layer
