@@ -139,7 +139,7 @@ func TestNothingPrints(t *testing.T) {
 	}
 }
 
-// What stands at package level has a value that is written out there.
+// What stands at package level has a value that is written out there; but where numbers are found once, they, and what sees to that, have none.
 func TestPackageLevel(t *testing.T) {
 	for _, s := range sources(t) {
 		for _, d := range s.tree.Decls {
@@ -149,7 +149,8 @@ func TestPackageLevel(t *testing.T) {
 			}
 			for _, spec := range group.Specs {
 				v := spec.(*ast.ValueSpec)
-				if len(v.Values) != len(v.Names) {
+				found := len(v.Values) == 0 && isFoundOnce(s.name)
+				if len(v.Values) != len(v.Names) && !found {
 					t.Errorf("%s: a variable without a value of its own", s.set.Position(v.Pos()))
 				}
 				for _, value := range v.Values {
@@ -160,4 +161,9 @@ func TestPackageLevel(t *testing.T) {
 			}
 		}
 	}
+}
+
+func isFoundOnce(name string) bool {
+	layer := filepath.Base(filepath.Dir(name))
+	return slices.Contains(strings.Fields(ways[layer]), "once")
 }

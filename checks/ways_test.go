@@ -21,6 +21,16 @@ type loader struct {
 	tree map[string][]*ast.File
 }
 
+// ways are those that each layer is built in.
+var ways = map[string]string{
+	"wire":    "variadic three-index rune string integer",
+	"field":   "array array-compared math/bits integer",
+	"scalar":  "array math/bits integer",
+	"ladder":  "integer several struct",
+	"sha":     "math/bits array array-compared slicing",
+	"edwards": "struct integer once",
+}
+
 func newLoader() *loader {
 	set := token.NewFileSet()
 	return &loader{
@@ -90,6 +100,10 @@ func (l *loader) way(n ast.Node) string {
 		}
 	case *ast.StructType:
 		return "struct"
+	case *ast.SelectorExpr:
+		if types.ExprString(x) == "sync.Once" {
+			return "once"
+		}
 	case *ast.AssignStmt:
 		if len(x.Lhs) > 1 {
 			return "several"
@@ -103,13 +117,7 @@ func (l *loader) way(n ast.Node) string {
 }
 
 func TestWays(t *testing.T) {
-	for layer, ways := range map[string]string{
-		"wire":   "variadic three-index rune string integer",
-		"field":  "array array-compared math/bits integer",
-		"scalar": "array math/bits integer",
-		"ladder": "integer several struct",
-		"sha":    "math/bits array array-compared slicing",
-	} {
+	for layer, wanted := range ways {
 		l := newLoader()
 		path := module + "/" + layer
 		if _, err := l.Import(path); err != nil {
@@ -122,7 +130,7 @@ func TestWays(t *testing.T) {
 				return true
 			})
 		}
-		for _, way := range strings.Fields(ways) {
+		for _, way := range strings.Fields(wanted) {
 			if !found[way] {
 				t.Errorf("%s: nothing is built by the way %s", layer, way)
 			}
