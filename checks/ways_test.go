@@ -35,7 +35,7 @@ func newLoader() *loader {
 	set := token.NewFileSet()
 	return &loader{
 		set:  set,
-		info: &types.Info{Types: map[ast.Expr]types.TypeAndValue{}},
+		info: &types.Info{Types: map[ast.Expr]types.TypeAndValue{}, Defs: map[*ast.Ident]types.Object{}, Uses: map[*ast.Ident]types.Object{}},
 		std:  importer.ForCompiler(set, "source", nil),
 		done: map[string]*types.Package{},
 		tree: map[string][]*ast.File{},

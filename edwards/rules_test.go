@@ -23,7 +23,7 @@ func askedAtOnce() [many]edwards.Point {
 	for i := range many {
 		workers.Go(func() {
 			<-start
-			switch i % 3 {
+			switch i % 4 {
 			case 0:
 				got[i] = edwards.Base(api.Key{1})
 			case 1:
@@ -31,6 +31,8 @@ func askedAtOnce() [many]edwards.Point {
 			case 2:
 				q, _ := edwards.Of(nought.bytes())
 				got[i] = q.Add(edwards.Base(api.Key{1}))
+			case 3:
+				_, got[i] = edwards.Constants()
 			}
 		})
 	}
