@@ -29,6 +29,7 @@ var ways = map[string]string{
 	"ladder":  "integer several struct",
 	"sha":     "math/bits array array-compared slicing",
 	"edwards": "struct integer once",
+	"sign":    "array-slicing variadic handed-on",
 }
 
 func newLoader() *loader {
@@ -73,10 +74,18 @@ func (l *loader) way(n ast.Node) string {
 	case *ast.Ellipsis:
 		return "variadic"
 	case *ast.SliceExpr:
-		if x.Slice3 {
+		_, ok := l.info.Types[x.X].Type.Underlying().(*types.Array)
+		switch {
+		case x.Slice3:
 			return "three-index"
+		case ok:
+			return "array-slicing"
 		}
 		return "slicing"
+	case *ast.CallExpr:
+		if x.Ellipsis.IsValid() {
+			return "handed-on"
+		}
 	case *ast.RangeStmt:
 		b, ok := l.info.Types[x.X].Type.Underlying().(*types.Basic)
 		switch {
