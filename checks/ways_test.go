@@ -30,6 +30,7 @@ var ways = map[string]string{
 	"sha":     "math/bits array array-compared slicing",
 	"edwards": "struct integer once",
 	"sign":    "array-slicing variadic handed-on",
+	"chacha":  "closure-array array math/bits",
 }
 
 func newLoader() *loader {
@@ -109,6 +110,11 @@ func (l *loader) way(n ast.Node) string {
 		}
 	case *ast.StructType:
 		return "struct"
+	case *ast.FuncLit:
+		if l.isOverArray(x) {
+			return "closure-array"
+		}
+		return "closure"
 	case *ast.SelectorExpr:
 		if types.ExprString(x) == "sync.Once" {
 			return "once"
@@ -123,6 +129,22 @@ func (l *loader) way(n ast.Node) string {
 		}
 	}
 	return ""
+}
+
+// isOverArray says whether a closure goes by an array that was there ahead of it.
+func (l *loader) isOverArray(f *ast.FuncLit) bool {
+	found := false
+	ast.Inspect(f.Body, func(n ast.Node) bool {
+		if name, ok := n.(*ast.Ident); ok {
+			v, ok := l.info.Uses[name].(*types.Var)
+			if ok && v.Pos() < f.Pos() {
+				_, array := v.Type().Underlying().(*types.Array)
+				found = found || array
+			}
+		}
+		return true
+	})
+	return found
 }
 
 func TestWays(t *testing.T) {
