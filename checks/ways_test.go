@@ -31,6 +31,7 @@ var ways = map[string]string{
 	"edwards": "struct integer once",
 	"sign":    "array-slicing variadic handed-on",
 	"chacha":  "closure-array array math/bits",
+	"poly":    "array math/bits",
 }
 
 func newLoader() *loader {
