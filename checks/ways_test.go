@@ -32,6 +32,7 @@ var ways = map[string]string{
 	"sign":    "array-slicing variadic handed-on",
 	"chacha":  "closure-array array math/bits",
 	"poly":    "array math/bits",
+	"aead":    "variadic handed-on closure slicing",
 }
 
 func newLoader() *loader {
