@@ -33,6 +33,7 @@ var ways = map[string]string{
 	"chacha":  "closure-array array math/bits",
 	"poly":    "array math/bits",
 	"aead":    "variadic handed-on closure slicing",
+	"blake":   "array-array closure-array slicing",
 }
 
 func newLoader() *loader {
@@ -102,7 +103,11 @@ func (l *loader) way(n ast.Node) string {
 			return "rune"
 		}
 	case *ast.ArrayType:
-		if x.Len != nil {
+		_, rows := l.info.Types[x.Elt].Type.Underlying().(*types.Array)
+		switch {
+		case x.Len != nil && rows:
+			return "array-array"
+		case x.Len != nil:
 			return "array"
 		}
 	case *ast.BinaryExpr:
