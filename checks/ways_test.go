@@ -34,6 +34,7 @@ var ways = map[string]string{
 	"poly":    "array math/bits",
 	"aead":    "variadic handed-on closure slicing",
 	"blake":   "array-array closure-array slicing",
+	"hkdf":    "variadic handed-on array array-xor",
 }
 
 func newLoader() *loader {
@@ -92,11 +93,14 @@ func (l *loader) way(n ast.Node) string {
 		}
 	case *ast.RangeStmt:
 		b, ok := l.info.Types[x.X].Type.Underlying().(*types.Basic)
+		_, array := l.info.Types[x.X].Type.Underlying().(*types.Array)
 		switch {
 		case ok && b.Info()&types.IsString != 0:
 			return "string"
 		case ok && b.Info()&types.IsInteger != 0:
 			return "integer"
+		case array && hasXor(x.Body):
+			return "array-xor"
 		}
 	case *ast.Ident:
 		if x.Name == "rune" {
@@ -148,6 +152,20 @@ func (l *loader) isOverArray(f *ast.FuncLit) bool {
 				_, array := v.Type().Underlying().(*types.Array)
 				found = found || array
 			}
+		}
+		return true
+	})
+	return found
+}
+
+func hasXor(body *ast.BlockStmt) bool {
+	found := false
+	ast.Inspect(body, func(n ast.Node) bool {
+		switch x := n.(type) {
+		case *ast.AssignStmt:
+			found = found || x.Tok == token.XOR_ASSIGN
+		case *ast.BinaryExpr:
+			found = found || x.Op == token.XOR
 		}
 		return true
 	})
