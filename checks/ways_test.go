@@ -35,6 +35,7 @@ var ways = map[string]string{
 	"aead":    "variadic handed-on closure slicing",
 	"blake":   "array-array closure-array slicing",
 	"hkdf":    "variadic handed-on array array-xor",
+	"der":     "fallthrough variadic goto",
 }
 
 func newLoader() *loader {
@@ -134,6 +135,8 @@ func (l *loader) way(n ast.Node) string {
 		if len(x.Lhs) > 1 {
 			return "several"
 		}
+	case *ast.BranchStmt:
+		return x.Tok.String()
 	case *ast.ImportSpec:
 		if path, _ := strconv.Unquote(x.Path.Value); path == "math/bits" {
 			return path
