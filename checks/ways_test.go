@@ -36,6 +36,7 @@ var ways = map[string]string{
 	"blake":   "array-array closure-array slicing",
 	"hkdf":    "variadic handed-on array array-xor",
 	"der":     "fallthrough variadic goto",
+	"disk":    "map-array array array-compared variadic",
 }
 
 func newLoader() *loader {
@@ -115,6 +116,11 @@ func (l *loader) way(n ast.Node) string {
 		case x.Len != nil:
 			return "array"
 		}
+	case *ast.MapType:
+		if _, ok := l.info.Types[x.Value].Type.Underlying().(*types.Array); ok {
+			return "map-array"
+		}
+		return "map"
 	case *ast.BinaryExpr:
 		_, ok := l.info.Types[x.X].Type.Underlying().(*types.Array)
 		if ok && (x.Op == token.EQL || x.Op == token.NEQ) {
