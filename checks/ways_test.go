@@ -37,6 +37,7 @@ var ways = map[string]string{
 	"hkdf":    "variadic handed-on array array-xor",
 	"der":     "fallthrough variadic goto",
 	"disk":    "map-array array array-compared variadic",
+	"seal":    "label-break closure",
 }
 
 func newLoader() *loader {
@@ -142,6 +143,9 @@ func (l *loader) way(n ast.Node) string {
 			return "several"
 		}
 	case *ast.BranchStmt:
+		if x.Tok == token.BREAK && x.Label != nil {
+			return "label-break"
+		}
 		return x.Tok.String()
 	case *ast.ImportSpec:
 		if path, _ := strconv.Unquote(x.Path.Value); path == "math/bits" {
